@@ -1,0 +1,1 @@
+"""Piercednames: many editors of one program."""

@@ -1,0 +1,109 @@
+"""Values and programs that several tests use."""
+
+import random
+
+from piercednames.making import make
+from piercednames.programs import Program
+
+SIGNS = ("+", "-", "*", "<")
+
+
+def empty_program():
+    return Program(("", 0), {}, {}, {}, {})
+
+
+def odd_values():
+    """Values of all kinds, none of which is a name, and none an id of a program that is used here."""
+    return [
+        None, True, False, 0, 1, 2, -1, 10 ** 30, "", "Ann", "seventh", "let", "a b", ".2", "x.1", "\n",
+        (), ("",), ("", 2, 3), ("", True), ("", False), ("", -1), ("", "2"), ("", None), ("Ann", 2),
+        ("let", 2), ("seventh", 2), (0, 2), (2, ""), (("", 2),), (("", 2), ("", 2)), ("zz", 2), ("", 9999),
+        ("", (2,)), ("", [2]), [], [""], ["", 2], [("", 2)], {}, {"": 2}, {("", 2): "x"}, ("use", ("", 2)),
+        empty_program(), (empty_program(),), [[[[[[[["", 2]]]]]]]],
+    ]
+
+
+class TreeMaker:
+    """Makes random trees for make, with rows that are well kept, and names that may be wrong."""
+
+    def __init__(self, seed, rows=25, depth=4):
+        self.random = random.Random(seed)
+        self.left = rows
+        self.depth = depth
+        self.labels = 0
+        self.procedures = {}
+
+    def label(self):
+        self.labels += 1
+        text = ""
+        number = self.labels
+        while number:
+            number, letter = divmod(number, 26)
+            text = "abcdefghijklmnopqrstuvwxyz"[letter] + text
+        return "q" + text
+
+    def tree(self):
+        return self.rows([], [], self.depth)
+
+    def rows(self, variables, procedures, depth):
+        many = self.random.randint(0, 6)
+        kinds = [self.random.choice("let let set out read do def if repeat block".split()) for _ in range(many)]
+        # Declarations are seen in their whole block: their labels are known ahead of the rows.
+        own = [self.label() for _ in range(many)]
+        counts = [self.random.randint(0, 3) for _ in range(many)]
+        variables = variables + [own[k] for k in range(many) if kinds[k] == "let"]
+        procedures = procedures + [(own[k], counts[k]) for k in range(many) if kinds[k] == "def"]
+        rows = []
+        for kind, label, count in zip(kinds, own, counts):
+            if self.left <= 0 and kind not in ("let", "def"):
+                continue
+            self.left -= 1
+            row = self.row(kind, label, count, variables, procedures, depth)
+            if row is not None:
+                rows.append(row)
+        return rows
+
+    def row(self, kind, label, count, variables, procedures, depth):
+        if kind == "let":
+            return ("let", label, self.expression(variables, 3))
+        if kind == "set" and variables:
+            return ("set", self.random.choice(variables), self.expression(variables, 3))
+        if kind == "read" and variables:
+            return ("read", self.random.choice(variables))
+        if kind == "do" and procedures:
+            name, many = self.random.choice(procedures)
+            return ("do", name, tuple(self.expression(variables, 2) for _ in range(many)))
+        if kind == "def":
+            parameters = tuple(self.label() for _ in range(count))
+            rows = self.inner(variables + list(parameters), procedures, depth)
+            return ("def", label, parameters, rows)
+        if kind == "if":
+            halves = [self.inner(variables, procedures, depth) for _ in range(2)]
+            return ("if", self.expression(variables, 3), *halves)
+        if kind == "repeat":
+            return ("repeat", self.expression(variables, 2), self.inner(variables, procedures, depth))
+        if kind == "block":
+            return ("block", self.inner(variables, procedures, depth))
+        return ("out", self.expression(variables, 4))
+
+    def inner(self, variables, procedures, depth):
+        if depth == 0 or self.left <= 0:
+            return []
+        return self.rows(variables, procedures, depth - 1)
+
+    def expression(self, variables, depth):
+        if depth == 0 or self.random.random() < 0.4:
+            if variables and self.random.random() < 0.6:
+                return self.random.choice(variables)
+            return self.random.choice([0, 1, 2, 10, 999999])
+        sides = [self.expression(variables, depth - 1) for _ in range(2)]
+        return (self.random.choice(SIGNS), *sides)
+
+
+def random_tree(seed, rows=25, depth=4):
+    return TreeMaker(seed, rows, depth).tree()
+
+
+def random_program(seed, rows=25, depth=4, owner=""):
+    """A random program, all of whose declarations have different names."""
+    return make(random_tree(seed, rows, depth), owner=owner)

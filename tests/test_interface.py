@@ -1,0 +1,59 @@
+"""The names, parameters and places of the interface."""
+
+import importlib
+import inspect
+import unittest
+
+FUNCTIONS = {
+    "words": [
+        "is_name(value)", "is_id(value)", "is_number(value, least, most)", "id_text(thing)", "read_id(text)",
+        "read_numeral(text)", "fresh_names(many, avoid)",
+    ],
+    "positions": [
+        "lowest(over, under)", "middle(one, other)", "is_below(one, other)", "position_behind(one, other)",
+        "ordered(pairs)",
+    ],
+    "contents": [
+        "things_of(content)", "blocks_of(content)", "declared_by(content)", "expressions_of(content)",
+        "expression_uses(expression)", "copied(content, ids)",
+    ],
+    "programs": ["alike(one, other)"],
+    "making": ["make(tree, *, names=None, owner='')"],
+    "tokens": ["tokens_of(line)"],
+    "texts": ["read_text(text, *, owner='')", "scan_text(text, *, seen=None)"],
+    "writing": ["program_text(program)", "expression_text(program, expression)", "listing(program)"],
+}
+METHODS = {
+    ("programs", "Program"): [
+        "__init__(self, root, rows, names, meanings, values)", "state(self)", "things(self)", "blocks(self)",
+        "rows(self)", "declarations(self)", "uses(self)", "numerals(self)", "kind_of(self, thing)",
+        "rows_of(self, block)", "content(self, row)", "position(self, row)", "block_of(self, thing)",
+        "row_of(self, thing)", "parent(self, block)", "path(self, block)", "depth(self, block)",
+        "name_of(self, declaration)", "meaning(self, use)", "value_of(self, numeral)", "uses_of(self, declaration)",
+        "parameters(self, declaration)", "body(self, declaration)", "names(self)", "renamed(self, names)",
+        "respaced(self)", "fits(self, use, declaration)", "reaches(self, block, declaration)", "__eq__(self, other)",
+        "__len__(self)", "__repr__(self)",
+    ],
+}
+
+
+class InterfaceTest(unittest.TestCase):
+    def test_functions(self):
+        for file, listed in FUNCTIONS.items():
+            module = importlib.import_module("piercednames." + file)
+            for text in listed:
+                function = getattr(module, text.partition("(")[0])
+                self.assertEqual(function.__name__ + str(inspect.signature(function)), text)
+                self.assertEqual(function.__module__, "piercednames." + file)
+
+    def test_methods(self):
+        for (file, name), listed in METHODS.items():
+            kind = getattr(importlib.import_module("piercednames." + file), name)
+            self.assertEqual(kind.__module__, "piercednames." + file)
+            for text in listed:
+                method = vars(kind)[text.partition("(")[0]]
+                self.assertEqual(method.__name__ + str(inspect.signature(method)), text)
+
+
+if __name__ == "__main__":
+    unittest.main()
