@@ -102,20 +102,17 @@ def folded(expression, at_leaf, at_sign):
 def copied(content, ids):
     """The content with each id of a dict replaced by its new one."""
     word = content[0]
-    if word == "let" or word == "set":
+    if word in ("let", "set"):
         return (word, new_id(content[1], ids), copied_expression(content[2], ids))
-    if word == "read":
+    if word in ("read", "block"):
         return (word, new_id(content[1], ids))
-    if word == "out":
-        return (word, copied_expression(content[1], ids))
     if word == "def":
         parameters = tuple([new_id(parameter, ids) for parameter in content[2]])
         return (word, new_id(content[1], ids), parameters, new_id(content[3], ids))
     if word == "do":
         arguments = tuple([copied_expression(argument, ids) for argument in content[2]])
         return (word, new_id(content[1], ids), arguments)
-    if word == "block":
-        return (word, new_id(content[1], ids))
+    # What is left begins with an expression: out, if, repeat.
     blocks = [new_id(block, ids) for block in blocks_of(content)]
     return (word, copied_expression(content[1], ids), *blocks)
 

@@ -47,8 +47,8 @@ def read_id(text):
     """The id with a text, None for any value that is none."""
     if not isinstance(text, str):
         return None
-    owner, dot, digits = text.partition(".")
-    if dot == "" or not is_owner(owner) or not is_plain_number(digits):
+    owner, _, digits = text.partition(".")
+    if not is_owner(owner) or not is_plain_number(digits):
         return None
     return (owner, int(digits))
 

@@ -106,6 +106,8 @@ class ReadingOrderTest(unittest.TestCase):
             result.clear()
         self.assertEqual(program, kept)
         self.assertEqual(program.things(), kept.things())
+        self.assertEqual(program.blocks(), kept.blocks())
+        self.assertEqual(program.rows_of(ROOT), kept.rows_of(ROOT))
         self.assertEqual(program.path(at(6)), kept.path(at(6)))
         self.assertEqual(program.uses_of(at(2)), kept.uses_of(at(2)))
         self.assertEqual(program.parameters(at(5)), kept.parameters(at(5)))
