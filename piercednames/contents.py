@@ -99,6 +99,12 @@ def folded(expression, at_leaf, at_sign):
     return done[0]
 
 
+def flat_content(content):
+    """What tells a content from all others, without tuples as deep as its expressions."""
+    parts = [parts_of(expression) for expression in expressions_of(content)]
+    return (content[0], things_of(content), parts)
+
+
 def copied(content, ids):
     """The content with each id of a dict replaced by its new one."""
     word = content[0]

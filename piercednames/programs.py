@@ -1,6 +1,6 @@
 """Programs of the block language."""
 
-from piercednames.contents import copied
+from piercednames.contents import copied, flat_content
 from piercednames.errors import InvalidName, Lost, Misused, OutOfReach, UnknownId
 from piercednames.layout import Layout
 from piercednames.words import is_id, is_name
@@ -18,6 +18,7 @@ class Program:
         self._meanings = in_order(layout.of_kind("use"), meanings)
         self._values = in_order(layout.of_kind("number"), values)
         self._users = {declaration: [] for declaration in self._names}
+        self._flat_rows = flat_rows(self._rows)
         self._keep_uses()
 
     def _keep_uses(self):
@@ -191,7 +192,7 @@ class Program:
         return (
             isinstance(other, Program)
             and self.root == other.root
-            and self._rows == other._rows
+            and self._flat_rows == other._flat_rows
             and self._names == other._names
             and self._meanings == other._meanings
             and self._values == other._values
@@ -205,6 +206,15 @@ class Program:
 
     def __repr__(self):
         return f"Program({len(self._rows)} rows, {len(self._names)} declarations)"
+
+
+def flat_rows(rows):
+    """The rows as they are compared: tuples as deep as a long sum cannot be."""
+    flat = {}
+    for row in rows:
+        block, position, content = rows[row]
+        flat[row] = (block, position, flat_content(content))
+    return flat
 
 
 def in_order(keys, table):
@@ -227,7 +237,8 @@ def described(program):
 def described_thing(program, index, thing):
     kind = program.kind_of(thing)
     if kind == "row":
-        return (kind, index[program.block_of(thing)], copied(program.content(thing), index))
+        content = copied(program.content(thing), index)
+        return (kind, index[program.block_of(thing)], flat_content(content))
     if kind == "declaration":
         return (kind, program.name_of(thing))
     if kind == "use":

@@ -446,6 +446,21 @@ class ComparisonTest(unittest.TestCase):
             self.assertTrue(program != other)
         self.assertFalse(empty_program() == Program(("ann", 0), {}, {}, {}, {}))
 
+    def test_contents_are_told_apart(self):
+        trees = [
+            [("out", expression)] for expression in (
+                1, 2, ("+", 1, 2), ("-", 1, 2), ("+", ("+", 1, 2), 3), ("+", 1, ("+", 2, 3)), ("-", ("+", 1, 2), 3),
+            )
+        ]
+        trees += [[("if", 1, [], [])], [("repeat", 1, [])], [("block", [])], [("def", "p", (), [])]]
+        trees += [[("let", "x", 1)], [("let", "x", 1), ("read", "x")], [("let", "x", 1), ("out", "x")]]
+        trees += [[("def", "p", ("a",), [])], [("def", "p", (), []), ("do", "p", ())]]
+        programs = [make(tree) for tree in trees]
+        for one in range(len(programs)):
+            for other in range(len(programs)):
+                self.assertIs(programs[one] == programs[other], one == other)
+                self.assertIs(alike(programs[one], programs[other]), one == other)
+
     def test_other_classes(self):
         program = sample()
         for value in odd_values()[:-10] + [program.state(), repr(program)]:

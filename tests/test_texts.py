@@ -3,7 +3,7 @@ import unittest
 
 from piercednames.errors import BadText
 from piercednames.making import make
-from piercednames.programs import Program
+from piercednames.programs import Program, alike
 from piercednames.texts import read_text, scan_text
 from piercednames.writing import program_text
 from tests import reference
@@ -361,6 +361,9 @@ class LargeTextsTest(unittest.TestCase):
         program = read_text("out " + "1+" * 2900 + "1")
         self.assertEqual(len(program.numerals()), 2901)
         self.assertEqual(program_text(program), "out " + "1 + " * 2900 + "1\n")
+        self.assertEqual(read_text(program_text(program)), program)
+        self.assertNotEqual(read_text("out " + "1+" * 2899 + "1-1"), program)
+        self.assertTrue(alike(program, read_text(program_text(program), owner="ann")))
         program = read_text("out " + "(" * 2900 + "1" + ")" * 2900)
         self.assertEqual(program, make([("out", 1)]))
         self.assertEqual(fault("out " + "(" * 2900), (0, 2904, "form"))
