@@ -107,3 +107,33 @@ def random_tree(seed, rows=25, depth=4):
 def random_program(seed, rows=25, depth=4, owner=""):
     """A random program, all of whose declarations have different names."""
     return make(random_tree(seed, rows, depth), owner=owner)
+
+
+def named_by_chance(program, seed, letters):
+    """The program with names that are any of these letters, right or wrong."""
+    source = random.Random(seed)
+    return program.renamed({thing: source.choice(letters) for thing in program.declarations()})
+
+
+def wrong_programs(many, rows=25, depth=4, letters=("a", "ab", "abc", "abcd")):
+    """Random programs whose names are out of few letters."""
+    programs = []
+    for seed in range(many):
+        program = random_program(seed, rows, depth)
+        programs.append(named_by_chance(program, seed, letters[seed % len(letters)]))
+    return programs
+
+
+def single_programs(many, rows=25, depth=4):
+    """Random programs in which no block declares a name twice, with few names."""
+    programs = []
+    for seed in range(many):
+        program = random_program(seed, rows, depth)
+        source = random.Random(seed)
+        names, taken = {}, {}
+        for thing in program.declarations():
+            used = taken.setdefault(program.block_of(thing), [])
+            names[thing] = source.choice([letter for letter in "abcdefghijklmnopqrst" if letter not in used][:3])
+            used.append(names[thing])
+        programs.append(program.renamed(names))
+    return programs

@@ -22,6 +22,15 @@ FUNCTIONS = {
     "tokens": ["tokens_of(line)"],
     "texts": ["read_text(text, *, owner='')", "scan_text(text, *, seen=None)"],
     "writing": ["program_text(program)", "expression_text(program, expression)", "listing(program)"],
+    "meaning": [
+        "found(program, use)", "faults(program)", "is_right(program)", "check_right(program)", "check_single(program)",
+    ],
+    "namings": [
+        "fewest_names(table)", "count_namings(table, names, *, fixed=())", "naming_order(table, *, fixed=())",
+        "nth_naming(table, names, number, *, fixed=())", "number_of(table, names, naming, *, fixed=())",
+        "some_namings(table, names, *, start=0, many=20, fixed=())", "is_apart(table, naming)",
+    ],
+    "ways": ["way(table, names, naming, other)"],
 }
 METHODS = {
     ("programs", "Program"): [
@@ -33,6 +42,20 @@ METHODS = {
         "parameters(self, declaration)", "body(self, declaration)", "names(self)", "renamed(self, names)",
         "respaced(self)", "fits(self, use, declaration)", "reaches(self, block, declaration)", "__eq__(self, other)",
         "__len__(self)", "__repr__(self)",
+    ],
+    ("stretches", "Stretch"): [
+        "__init__(self, declaration, top, blocks)", "blocks(self)", "__contains__(self, block)", "__and__(self, other)",
+        "meets(self, other)", "__eq__(self, other)", "__len__(self)", "__repr__(self)",
+    ],
+    ("stretches", "Table"): [
+        "__init__(self, program)", "declarations(self)", "top_order(self)", "stretch(self, declaration)",
+        "meets(self, one, other)", "ahead(self, declaration)", "crowd(self, block)", "common(self, declarations)",
+        "unlike(self, declarations)", "meeting(self)", "clashing(self)", "greatest_crowd(self)", "__len__(self)",
+        "__repr__(self)",
+    ],
+    ("carried", "WideTable"): [
+        "__init__(self, program)", "alive_blocks(self)", "region(self, block)", "wants(self, declaration)",
+        "reason(self, declaration, block)", "__repr__(self)",
     ],
 }
 
