@@ -1,19 +1,23 @@
-"""The ids of the things of a tree of rows, in which labels and values stand in the place of ids."""
+"""The ids of the things of a tree of rows, in which labels and values stand in the place of ids.
+
+A label is a string, or an id that a sketch has; in an expression such an id stands behind "use".
+"""
 
 from piercednames.contents import folded
 
 
 class Numbering:
-    """Gives the things of a tree the ids (owner, 0), (owner, 1) and so on, in reading order.
+    """Gives the root and the things of a tree the ids (owner, start), (owner, start + 1) and so on.
 
-    root: the root. placed: the dict from the rows to (block, position, content). declared and
-    used: the dicts from the declarations and the uses to their labels, in reading order. told:
-    the dict from the numerals to their values.
+    They get them in reading order. root: the root. placed: the dict from the rows to (block,
+    position, content). declared and used: the dicts from the declarations and the uses to their
+    labels, in reading order. told: the dict from the numerals to their values. behind: the number
+    behind the last id.
     """
 
-    def __init__(self, tree, owner):
+    def __init__(self, tree, owner, start=0):
         self._owner = owner
-        self._many = 0
+        self.behind = start
         self.placed = {}
         self.declared = {}
         self.used = {}
@@ -30,8 +34,8 @@ class Numbering:
                 self._number_second_half(*rest)
 
     def _fresh(self):
-        thing = (self._owner, self._many)
-        self._many += 1
+        thing = (self._owner, self.behind)
+        self.behind += 1
         return thing
 
     def _enter(self, block, rows):
@@ -102,6 +106,8 @@ class Numbering:
     def _leaf(self, leaf):
         if isinstance(leaf, str):
             return ("use", self._use(leaf))
+        if isinstance(leaf, tuple):
+            return ("use", self._use(leaf[1]))
         thing = self._fresh()
         self.told[thing] = leaf
         return ("number", thing)

@@ -3,9 +3,13 @@
 import random
 
 from piercednames.making import make
+from piercednames.namings import count_namings, fewest_names, nth_naming
 from piercednames.programs import Program
+from piercednames.stretches import Table
 
 SIGNS = ("+", "-", "*", "<")
+ALL_KINDS = "let let set out read do def if repeat block"
+MANY_CALLS = "let let out do do do do def def def if repeat block"
 
 
 def empty_program():
@@ -26,8 +30,9 @@ def odd_values():
 class TreeMaker:
     """Makes random trees for make, with rows that are well kept, and names that may be wrong."""
 
-    def __init__(self, seed, rows=25, depth=4):
+    def __init__(self, seed, rows=25, depth=4, kinds=ALL_KINDS):
         self.random = random.Random(seed)
+        self.kinds = kinds.split()
         self.left = rows
         self.depth = depth
         self.labels = 0
@@ -47,7 +52,7 @@ class TreeMaker:
 
     def rows(self, variables, procedures, depth):
         many = self.random.randint(0, 6)
-        kinds = [self.random.choice("let let set out read do def if repeat block".split()) for _ in range(many)]
+        kinds = [self.random.choice(self.kinds) for _ in range(many)]
         # Declarations are seen in their whole block: their labels are known ahead of the rows.
         own = [self.label() for _ in range(many)]
         counts = [self.random.randint(0, 3) for _ in range(many)]
@@ -100,13 +105,13 @@ class TreeMaker:
         return (self.random.choice(SIGNS), *sides)
 
 
-def random_tree(seed, rows=25, depth=4):
-    return TreeMaker(seed, rows, depth).tree()
+def random_tree(seed, rows=25, depth=4, kinds=ALL_KINDS):
+    return TreeMaker(seed, rows, depth, kinds).tree()
 
 
-def random_program(seed, rows=25, depth=4, owner=""):
+def random_program(seed, rows=25, depth=4, owner="", kinds=ALL_KINDS):
     """A random program, all of whose declarations have different names."""
-    return make(random_tree(seed, rows, depth), owner=owner)
+    return make(random_tree(seed, rows, depth, kinds), owner=owner)
 
 
 def named_by_chance(program, seed, letters):
@@ -124,16 +129,32 @@ def wrong_programs(many, rows=25, depth=4, letters=("a", "ab", "abc", "abcd")):
     return programs
 
 
-def single_programs(many, rows=25, depth=4):
+def single_programs(many, rows=25, depth=4, kinds=MANY_CALLS, letters=3):
     """Random programs in which no block declares a name twice, with few names."""
     programs = []
     for seed in range(many):
-        program = random_program(seed, rows, depth)
+        program = random_program(seed, rows, depth, kinds=kinds)
         source = random.Random(seed)
         names, taken = {}, {}
         for thing in program.declarations():
             used = taken.setdefault(program.block_of(thing), [])
-            names[thing] = source.choice([letter for letter in "abcdefghijklmnopqrst" if letter not in used][:3])
+            names[thing] = source.choice([letter for letter in "abcdefghijklmnopqrst" if letter not in used][:letters])
             used.append(names[thing])
         programs.append(program.renamed(names))
+    return programs
+
+
+def right_programs(many, rows=30, depth=4, kinds=MANY_CALLS, spare=0):
+    """Random programs with right names, as few as there can be and some to spare."""
+    programs = []
+    for seed in range(many * 20):
+        if len(programs) == many:
+            return programs
+        program = random_program(seed, rows, depth, kinds=kinds)
+        if len(program) < 8:
+            continue
+        table = Table(program)
+        names = list("abcdefghijklmnopqrst")[:fewest_names(table) + spare]
+        number = random.Random(seed).randrange(count_namings(table, names))
+        programs.append(program.renamed(nth_naming(table, names, number)))
     return programs

@@ -31,6 +31,9 @@ FUNCTIONS = {
         "some_namings(table, names, *, start=0, many=20, fixed=())", "is_apart(table, naming)",
     ],
     "ways": ["way(table, names, naming, other)"],
+    "heals": ["heal(table, *, worths=None, held=(), avoid=())"],
+    "parting": ["parting(program, *, by='callers', cells=None)", "fewest_cells(program)", "deal_cells(program)"],
+    "edits": ["is_edit(value)", "edit_text(edit)", "read_edit(text)", "sketched(sketch, *, person, start)"],
 }
 METHODS = {
     ("programs", "Program"): [
@@ -57,7 +60,17 @@ METHODS = {
         "__init__(self, program)", "alive_blocks(self)", "region(self, block)", "wants(self, declaration)",
         "reason(self, declaration, block)", "__repr__(self)",
     ],
+    ("heals", "Plan"): [
+        "kept(self)", "renames(self)", "barred(self)", "weights(self, name)", "always_kept(self)", "never_kept(self)",
+        "result(self)", "__repr__(self)",
+    ],
+    ("runs", "Run"): [
+        "__init__(self, program, *, by='text', inputs=(), choices=None, cells=None)", "outputs(self)", "notes(self)",
+        "untrue(self)", "left(self)", "frames(self)", "cells(self)", "step(self)", "run(self, most=300)", "twin(self)",
+        "__repr__(self)",
+    ],
 }
+PROPERTIES = {("runs", "Run"): ["ended", "step_count"]}
 
 
 class InterfaceTest(unittest.TestCase):
@@ -76,6 +89,12 @@ class InterfaceTest(unittest.TestCase):
             for text in listed:
                 method = vars(kind)[text.partition("(")[0]]
                 self.assertEqual(method.__name__ + str(inspect.signature(method)), text)
+
+    def test_properties(self):
+        for (file, name), listed in PROPERTIES.items():
+            kind = getattr(importlib.import_module("piercednames." + file), name)
+            for word in listed:
+                self.assertIsInstance(vars(kind)[word], property)
 
 
 if __name__ == "__main__":
