@@ -28,8 +28,6 @@ class WideTable(Table):
 
     def wants(self, declaration):
         """The list of what a procedure wants, in reading order."""
-        if self.program.kind_of(declaration) != "declaration":
-            raise UnknownId(declaration)
         if self.program.body(declaration) is None:
             raise UnknownId(declaration)
         wanted = self._calls.wanted[declaration]
