@@ -28,6 +28,17 @@ class Layout:
         """The list of the things of a kind, in reading order."""
         return [thing for thing in self.order if self.kinds[thing] == kind]
 
+    def path(self, block):
+        """The list of a block and those above it, upward."""
+        path = [block]
+        while self.homes[path[-1]] is not None:
+            path.append(self.homes[path[-1]])
+        return path
+
+    def reaches(self, block, declaration):
+        """Whether a declaration is in reach of a block."""
+        return self.homes[declaration] in self.path(block)
+
     def _walk(self, root, rows):
         # A stack in place of recursion, for a text may nest more blocks than calls can be nested.
         steps = [("rows", root, None, None), ("block", root, None, None)]

@@ -107,10 +107,7 @@ class Program:
     def path(self, block):
         """The list of the block and those above it, upward."""
         self._require(block, "block")
-        path = [block]
-        while self._layout.homes[path[-1]] is not None:
-            path.append(self._layout.homes[path[-1]])
-        return path
+        return self._layout.path(block)
 
     def depth(self, block):
         """The number of blocks above a block."""
@@ -186,7 +183,7 @@ class Program:
         """Whether a declaration is in reach of a block."""
         self._require(block, "block")
         self._require(declaration, "declaration")
-        return self._layout.homes[declaration] in self.path(block)
+        return self._layout.reaches(block, declaration)
 
     def __eq__(self, other):
         return (

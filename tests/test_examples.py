@@ -3,9 +3,11 @@
 import unittest
 
 from piercednames.carried import WideTable
+from piercednames.drafts import Draft
 from piercednames.errors import BadText
 from piercednames.heals import heal
 from piercednames.meaning import faults
+from piercednames.merges import Merge
 from piercednames.namings import count_namings, fewest_names, nth_naming
 from piercednames.positions import middle, position_behind
 from piercednames.runs import Run
@@ -33,6 +35,15 @@ class ExamplesTest(unittest.TestCase):
             ('caught', ('', 8), ('', 2), ('', 7), ('', 5)), [('', 2)], {('', 7): 'a'}, 1,
             'let x = 1\nblock {\n  let a = x\n  out a + x\n}\n',
         ])
+
+    def test_merges(self):
+        base = read_text('let x = 1\nblock {\nout x\n}\n')
+        ann, bob = Draft(base, 'ann'), Draft(base, 'bob')
+        ann.edit(('rename', ('', 2), 'y'))
+        bob.edit(('put', ('', 5), None, ('let', 'y', 0)))
+        merge = Merge(base, ann.net(), bob.net())
+        told = [Merge(base, ann.net()).is_right(), merge.is_right(), merge.name_faults()]
+        self.assertEqual(told, [True, False, [('caught', ('', 7), ('', 2), ('bob', 2), ('', 5))]])
 
     def test_runs(self):
         program = read_text('let x = 1\ndef p() {\nout x\n}\nblock {\nlet x = 2\ndo p()\n}\n')

@@ -34,6 +34,13 @@ FUNCTIONS = {
     "heals": ["heal(table, *, worths=None, held=(), avoid=())"],
     "parting": ["parting(program, *, by='callers', cells=None)", "fewest_cells(program)", "deal_cells(program)"],
     "edits": ["is_edit(value)", "edit_text(edit)", "read_edit(text)", "sketched(sketch, *, person, start)"],
+    "steps": [
+        "first_number(program, person)", "lift(program, row, many, name, *, person, start)",
+        "inline(program, row, *, person, start)", "hoist(program, row, block)",
+        "wrap(program, row, many, *, person, start)", "unwrap(program, row)",
+    ],
+    "drafts": ["edited(program, edit, *, person, start)"],
+    "joining": ["structure_faults(program, net)", "joined(program, net)", "net_back(program, net, person)"],
 }
 METHODS = {
     ("programs", "Program"): [
@@ -69,8 +76,28 @@ METHODS = {
         "untrue(self)", "left(self)", "frames(self)", "cells(self)", "step(self)", "run(self, most=300)", "twin(self)",
         "__repr__(self)",
     ],
+    ("nets", "Net"): [
+        "none()", "between(base, result, person)", "people(self)", "attributes(self)", "versions(self, attribute)",
+        "worth_of(self, attribute)", "argued(self)", "chosen(self, attributes)", "settled(self, attribute, person)",
+        "__add__(self, other)", "__contains__(self, attribute)", "__eq__(self, other)", "__len__(self)", "__repr__(self)",
+    ],
+    ("drafts", "Draft"): [
+        "__init__(self, program, person)", "edit(self, *edits)", "undo(self)", "edits(self)", "result(self)", "net(self)",
+        "twin(self)", "__len__(self)", "__repr__(self)",
+    ],
+    ("merges", "Merge"): [
+        "__init__(self, base, *nets)", "add_net(self, net)", "settle(self, attribute, person)", "unsettle(self, attribute)",
+        "settled(self)", "whole_net(self)", "net(self)", "people(self)", "argued(self)", "faults(self)", "result(self)",
+        "name_faults(self)", "is_right(self)", "heal(self, *, worths=None, held=(), avoid=())", "twin(self)",
+        "__repr__(self)",
+    ],
 }
-PROPERTIES = {("runs", "Run"): ["ended", "step_count"]}
+STATIC = {("nets", "Net"): ["none", "between"]}
+PROPERTIES = {
+    ("runs", "Run"): ["ended", "step_count"],
+    ("drafts", "Draft"): ["base", "next_number"],
+    ("merges", "Merge"): ["base"],
+}
 
 
 class InterfaceTest(unittest.TestCase):
@@ -87,7 +114,10 @@ class InterfaceTest(unittest.TestCase):
             kind = getattr(importlib.import_module("piercednames." + file), name)
             self.assertEqual(kind.__module__, "piercednames." + file)
             for text in listed:
-                method = vars(kind)[text.partition("(")[0]]
+                word = text.partition("(")[0]
+                self.assertEqual(isinstance(vars(kind)[word], staticmethod), word in STATIC.get((file, name), []))
+                method = getattr(kind, word)
+                self.assertIn(word, vars(kind))
                 self.assertEqual(method.__name__ + str(inspect.signature(method)), text)
 
     def test_properties(self):
