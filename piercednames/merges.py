@@ -34,7 +34,7 @@ class Merge:
 
     def settle(self, attribute, person):
         """Gives an attribute the worth of the version of a person."""
-        self._whole.settled(attribute, person)
+        self._whole.version_of(attribute, person)
         self._settled[attribute] = person
 
     def unsettle(self, attribute):
@@ -45,8 +45,8 @@ class Merge:
 
     def settled(self):
         """The dict from the settled attributes, ascending, to their worths."""
-        net = self.net()
-        return {attribute: net.worth_of(attribute) for attribute in sorted(self._settled)}
+        chosen = self._chosen()
+        return {attribute: chosen[attribute][0] for attribute in sorted(chosen)}
 
     def whole_net(self):
         """The sum of all nets."""
@@ -54,10 +54,12 @@ class Merge:
 
     def net(self):
         """The sum, in which each settled attribute has only the version with its worth."""
-        net = self._whole
-        for attribute in self._settled:
-            net = net.settled(attribute, self._settled[attribute])
-        return net
+        return self._whole.settled_by(self._chosen())
+
+    def _chosen(self):
+        """The dict from the settled attributes to their versions."""
+        whole = self._whole
+        return {attribute: whole.version_of(attribute, self._settled[attribute]) for attribute in self._settled}
 
     def people(self):
         """The ascending list of the people."""

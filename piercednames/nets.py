@@ -65,11 +65,20 @@ class Net:
 
     def settled(self, attribute, person):
         """The net in which an attribute has only the version of a person."""
-        own = [version for version in self.versions(attribute) if person in version[1]]
-        if not own:
-            raise UnknownPerson(person)
-        versions = {other: self._versions[other] for other in self._versions}
-        versions[attribute] = own
+        return self.settled_by({attribute: self.version_of(attribute, person)})
+
+    def version_of(self, attribute, person):
+        """The version of an attribute that has a person, as a pair (worth, people)."""
+        for worth, people in self.versions(attribute):
+            if person in people:
+                return (worth, people)
+        raise UnknownPerson(person)
+
+    def settled_by(self, chosen):
+        """The net in which each attribute of a dict has only the version that the dict tells."""
+        versions = {}
+        for attribute in self._versions:
+            versions[attribute] = [chosen[attribute]] if attribute in chosen else self._versions[attribute]
         return Net(self._people, versions)
 
     def __add__(self, other):

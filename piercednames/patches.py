@@ -20,8 +20,17 @@ class Patch:
         self._uses = program.uses()
 
     def add_row(self, row, block, position, content):
-        """Adds a new row; what it declares, uses and tells is given to the dicts besides."""
+        """Adds a new row; its names, meanings and values are added besides."""
         self.placed[row] = (block, position, content)
+
+    def add_worths(self, names, meanings, values):
+        """Adds the names, meanings and values of new things."""
+        for thing in names:
+            self.named[thing] = names[thing]
+        for thing in meanings:
+            self.meant[thing] = meanings[thing]
+        for thing in values:
+            self.told[thing] = values[thing]
 
     def set_place(self, row, block, position):
         """Gives a row a place."""

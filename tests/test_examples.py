@@ -1,8 +1,10 @@
-"""The examples of the document that need only what is there."""
+"""The examples of the document."""
 
 import unittest
 
 from piercednames.carried import WideTable
+from piercednames.choices import least_wrong
+from piercednames.desk import Desk
 from piercednames.drafts import Draft
 from piercednames.errors import BadText
 from piercednames.heals import heal
@@ -42,14 +44,27 @@ class ExamplesTest(unittest.TestCase):
         ann.edit(('rename', ('', 2), 'y'))
         bob.edit(('put', ('', 5), None, ('let', 'y', 0)))
         merge = Merge(base, ann.net(), bob.net())
-        told = [Merge(base, ann.net()).is_right(), merge.is_right(), merge.name_faults()]
-        self.assertEqual(told, [True, False, [('caught', ('', 7), ('', 2), ('bob', 2), ('', 5))]])
+        told = [Merge(base, ann.net()).is_right(), merge.is_right(), merge.name_faults(), least_wrong(base, merge.net())]
+        self.assertEqual(told, [
+            True, False, [('caught', ('', 7), ('', 2), ('bob', 2), ('', 5))], [('name', ('', 2)), ('new', ('bob', 1))],
+        ])
 
     def test_runs(self):
         program = read_text('let x = 1\ndef p() {\nout x\n}\nblock {\nlet x = 2\ndo p()\n}\n')
         one, other, table = Run(program), Run(program, by='callers'), WideTable(program)
         told = [one.run(), one.outputs(), other.run(), other.outputs(), other.untrue(), table.wants(('', 5)), table.clashing()]
         self.assertEqual(told, [9, [1], 9, [2], 1, [('', 2)], [(('', 2), ('', 12))]])
+
+    def test_desks(self):
+        desk = Desk()
+        desk.do(
+            ('base', 'let x = 1\nblock {\nout x\n}\n'), ('draft', 'ann'), ('edit', 'ann', ('rename', ('', 2), 'y')), ('join', 'ann'),
+            ('accept',),
+        )
+        self.assertEqual([desk('names'), desk('out'), desk('right'), desk.history(), desk.journal()], [
+            '1', '1', 'error NoMerge', (1, 0),
+            'base 4\nlet x = 1\nblock {\n  out x\n}\ndraft ann\nedit ann rename .2 y\njoin ann\naccept\n',
+        ])
 
     def test_texts(self):
         with self.assertRaises(BadText) as caught:

@@ -41,6 +41,15 @@ FUNCTIONS = {
     ],
     "drafts": ["edited(program, edit, *, person, start)"],
     "joining": ["structure_faults(program, net)", "joined(program, net)", "net_back(program, net, person)"],
+    "choices": [
+        "needs(net, attribute)", "fill(net, choice)", "first_fault(program, net, choice)", "least_wrong(program, net)",
+        "all_right(program, net)",
+    ],
+    "changes": [
+        "changes(stack, other)", "noticed(stack, other, client)", "witness(stack, other)", "exposed(stack)",
+        "exposing(stack, name)",
+    ],
+    "journals": ["journal_text(deeds)", "read_journal(text)"],
 }
 METHODS = {
     ("programs", "Program"): [
@@ -91,12 +100,28 @@ METHODS = {
         "name_faults(self)", "is_right(self)", "heal(self, *, worths=None, held=(), avoid=())", "twin(self)",
         "__repr__(self)",
     ],
+    ("libraries", "Library"): [
+        "__init__(self, name, program)", "exports(self)", "edition(self, net)", "__eq__(self, other)", "__len__(self)",
+        "__repr__(self)",
+    ],
+    ("libraries", "Stack"): [
+        "__init__(self, *libraries)", "libraries(self)", "sees(self, name)", "seen(self)", "meanings(self, client)",
+        "stacked_text(self, client)", "stacked(self, client)", "__add__(self, library)", "__contains__(self, name)",
+        "__eq__(self, other)", "__len__(self)", "__repr__(self)",
+    ],
+    ("desk", "Desk"): [
+        "__init__(self)", "do(self, *deeds)", "undo(self)", "redo(self)", "history(self)", "change_steps(self, value)",
+        "people(self)", "draft(self, person)", "held_merge(self)", "journal(self)", "__str__(self)", "replay(text)",
+        "tried(self, *deeds)", "ask(self, line)", "__call__(self, line)", "log(self)", "twin(self)", "__eq__(self, other)",
+        "__len__(self)", "__repr__(self)",
+    ],
 }
-STATIC = {("nets", "Net"): ["none", "between"]}
+STATIC = {("nets", "Net"): ["none", "between"], ("desk", "Desk"): ["replay"]}
 PROPERTIES = {
     ("runs", "Run"): ["ended", "step_count"],
     ("drafts", "Draft"): ["base", "next_number"],
     ("merges", "Merge"): ["base"],
+    ("desk", "Desk"): ["base", "steps"],
 }
 
 
