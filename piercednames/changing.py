@@ -1,8 +1,7 @@
 """The edits that are no steps: each function gives the program after one of them."""
 
-from piercednames.contents import declared_by
 from piercednames.edits import sketched
-from piercednames.errors import Lost, NoRoom, Ring, UnknownId
+from piercednames.errors import NoRoom, Ring, UnknownId
 from piercednames.patches import Patch, position_at, require, rows_within
 
 # Stands in while it is not known yet whether there is room: names and meanings do not depend on it.
@@ -30,13 +29,9 @@ def put(program, block, after, sketch, person, start):
 def drop(program, row):
     """The program without a row."""
     require(program, row, "row")
-    rows = rows_within(program, row)
-    declared = [thing for gone in rows for thing in declared_by(program.content(gone))]
-    for use in program.uses():
-        if program.meaning(use) in declared and program.row_of(use) not in rows:
-            raise Lost(use)
     patch = Patch(program)
-    patch.take_out(rows)
+    patch.take_out(rows_within(program, row))
+    # The first use whose meaning has gone raises Lost here.
     return patch.changed()
 
 
@@ -60,8 +55,7 @@ def turn(program, use, declaration):
     require(program, declaration, "declaration")
     patch = Patch(program)
     patch.meant[use] = declaration
-    patch.check_fit([use])
-    patch.check_reach([use])
+    # Misused and OutOfReach are raised here: no other use can be wrong.
     return patch.changed()
 
 

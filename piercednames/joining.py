@@ -1,7 +1,7 @@
 """Nets that are joined to programs."""
 
 from piercednames.contents import blocks_of, things_of
-from piercednames.errors import Argued, InvalidName, Unsound
+from piercednames.errors import InvalidName, Unsound
 from piercednames.layout import Layout
 from piercednames.nets import Net
 from piercednames.programs import Program
@@ -18,11 +18,9 @@ class Junction:
     """
 
     def __init__(self, program, net):
-        argued = net.argued()
-        if argued:
-            raise Argued(argued[0])
         self._root, self.placed, self.named, self.meant, self.told = program.state()
         self.placed_anew = {}
+        # This raises Argued for the least argued attribute.
         entries = {attribute: net.worth_of(attribute) for attribute in net.attributes()}
         # A new row must be known ahead of all that changes it or makes it go.
         for word, thing in entries:
@@ -50,16 +48,16 @@ class Junction:
                 self.told[thing] = worths[thing]
 
     def _change(self, word, thing, worth):
-        """Takes an entry about a thing, without effect if it is unknown."""
+        """Takes an entry about a thing; names, meanings and values of unknown things do not matter."""
         if word == "place" and thing in self.placed:
             _, _, content = self.placed[thing]
             self.placed[thing] = (*worth, content)
             self.placed_anew[thing] = True
-        elif word == "name" and thing in self.named:
+        elif word == "name":
             self.named[thing] = worth
-        elif word == "means" and thing in self.meant:
+        elif word == "means":
             self.meant[thing] = worth
-        elif word == "value" and thing in self.told:
+        elif word == "value":
             self.told[thing] = worth
 
     def rows_there(self):

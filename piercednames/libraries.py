@@ -88,7 +88,7 @@ class Stack:
         return Stack(*libraries)
 
     def __contains__(self, name):
-        return is_name(name) and name in [library.name for library in self._libraries]
+        return name in [library.name for library in self._libraries]
 
     def __eq__(self, other):
         return isinstance(other, Stack) and self._libraries == other._libraries

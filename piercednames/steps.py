@@ -31,7 +31,7 @@ def lift(program, row, many, name, *, person, start):
 
 def inline(program, row, *, person, start):
     """The program in which a call is replaced by a copy of the procedure."""
-    require_fit(program, row, "do")
+    check_word(program, row, "do")
     check_room(program, row, [row])
     _, use, arguments = program.content(row)
     procedure = program.meaning(use)
@@ -75,7 +75,7 @@ def wrap(program, row, many, *, person, start):
 
 def unwrap(program, row):
     """The program in which the rows of a block row stand in its place."""
-    require_fit(program, row, "block")
+    check_word(program, row, "block")
     _, block = program.content(row)
     rows = program.rows_of(block)
     patch = Patch(program)
@@ -98,12 +98,7 @@ def place_between(program, patch, rows, row):
         position = position_behind(position, limit)
 
 
-def require_fit(program, row, word):
-    require(program, row, "row")
-    check_word(program, row, word)
-
-
 def check_word(program, row, word):
-    """Raises NotFit unless the content of a row begins with a word."""
+    """Raises UnknownId for any value that is no row, NotFit unless its content begins with a word."""
     if program.content(row)[0] != word:
         raise NotFit(row)

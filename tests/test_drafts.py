@@ -161,6 +161,8 @@ class PutTest(DraftCase):
         draft = Draft(moved(program, second, (1, 1)), "ann")
         self.refused(draft, NoRoom, [first], ("put", at(0), first, ("out", 1)))
         self.refused(draft, Misused, [ann(2)], ("put", at(0), first, ("do", at(6), ())))
+        inside = Draft(moved(read_text("out 1\nblock {\nlet x = 3\n}\n"), ("", 3), (1, 1)), "ann")
+        self.refused(inside, OutOfReach, [ann(2)], ("put", at(0), ("", 1), ("out", ("use", ("", 6)))))
         draft.edit(("put", at(0), second, ("out", 1)), ("put", at(0), None, ("out", 1)), ("put", at(0), third, ("out", 1)))
         self.assertEqual(draft.result().rows(), [ann(3), first, second, ann(1), third, ann(5)])
 
